@@ -1,0 +1,1 @@
+"""Captions over a reel that is cut anew."""
