@@ -23,12 +23,17 @@ def made(top, bottom):
 
 def added(one, two):
     """Tell the sum of two fractions."""
-    return made(one[0] * two[1] + two[0] * one[1], one[1] * two[1])
+    # What the top and the bottom of the sum have in common divides what the bottoms have in common.
+    # So one long and one short fraction are added without a long search for a divisor.
+    shared = common_divisor(one[1], two[1])
+    top = one[0] * (two[1] // shared) + two[0] * (one[1] // shared)
+    divisor = common_divisor(top, shared)
+    return (top // divisor, one[1] // shared * (two[1] // divisor))
 
 
 def less(one, two):
     """Tell the first fraction less the second."""
-    return made(one[0] * two[1] - two[0] * one[1], one[1] * two[1])
+    return added(one, (-two[0], two[1]))
 
 
 def timed(one, two):
@@ -54,3 +59,16 @@ def smaller(one, two):
 def larger(one, two):
     """Tell the one of two fractions that is not below the other."""
     return two if is_below(one, two) else one
+
+
+def common_bottom(fractions):
+    """Tell the least whole number over which all of the fractions can be written."""
+    bottom = 1
+    for fraction in fractions:
+        bottom = bottom // common_divisor(bottom, fraction[1]) * fraction[1]
+    return bottom
+
+
+def scaled(fraction, bottom):
+    """Tell the top of a fraction that is written over a bottom."""
+    return fraction[0] * (bottom // fraction[1])

@@ -44,10 +44,17 @@ def as_clock(time, rate):
 def read_time(text, rate):
     """Read a time from any of its three texts; refuse others with BadTime."""
     if text.endswith("f"):
-        return read_mixed(text[:-1])
+        return read_frames(text)
     if text.endswith("s"):
         return timed(read_mixed(text[:-1]), (rate, 1))
     return read_clock(text, rate)
+
+
+def read_frames(text):
+    """Read a time that is written as frames; refuse others with BadTime."""
+    if not text.endswith("f"):
+        raise BadTime("a time is not written as frames")
+    return read_mixed(text[:-1])
 
 
 def read_mixed(text):

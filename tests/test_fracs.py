@@ -67,6 +67,16 @@ class ReckoningTest(unittest.TestCase):
                 self.assertEqual(exact(fracs.smaller(left, right)), min(one, two))
                 self.assertEqual(exact(fracs.larger(left, right)), max(one, two))
 
+    def test_over_one_bottom(self):
+        self.assertEqual(fracs.common_bottom([]), 1)
+        self.assertEqual(fracs.common_bottom([(5, 1), (0, 1)]), 1)
+        self.assertEqual(fracs.common_bottom([(1, 6), (-3, 4), (1, 9)]), 36)
+        self.assertEqual([fracs.scaled(one, 36) for one in ((1, 6), (-3, 4), (1, 9), (2, 1), (0, 1))],
+                         [6, -27, 4, 72, 0])
+        bottom = fracs.common_bottom([pair(one) for one in FRACTIONS])
+        for one in FRACTIONS:
+            self.assertEqual(fracs.scaled(pair(one), bottom), one * bottom)
+
 
 if __name__ == "__main__":
     unittest.main()

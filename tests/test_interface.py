@@ -4,6 +4,8 @@ import importlib
 import inspect
 import unittest
 
+from reels.reel import Reel
+
 FUNCTIONS = {
     "reels.fracs": {
         "made": ["top", "bottom"],
@@ -25,9 +27,30 @@ FUNCTIONS = {
         "frame_at": ["show", "time"],
         "taken": ["show", "begin", "end"],
     },
+    "reels.cues": {
+        "parts": ["show", "cue"],
+        "listing": ["show", "cues"],
+    },
+    "reels.moving": {
+        "moved": ["rows", "rule", "end"],
+    },
+    "reels.notes": {
+        "written": ["cues"],
+        "read_cues": ["text"],
+    },
 }
 CLASSES = {
     "reels.errors": ["ReelError", "BadTime", "BadNote", "OffReel", "NoDeed", "TooTight"],
+    "reels.reel": ["Reel"],
+}
+REEL_METHODS = {
+    "__init__": ["self", "show"],
+    "show": ["self"],
+    "out": ["self", "begin", "end"],
+    "into": ["self", "time", "other"],
+    "faster": ["self", "begin", "end", "factor"],
+    "back": ["self"],
+    "again": ["self"],
 }
 
 
@@ -48,6 +71,13 @@ class InterfaceTest(unittest.TestCase):
                     own = getattr(importlib.import_module(module), name)
                     self.assertTrue(inspect.isclass(own))
                     self.assertEqual(own.__module__, module)
+
+    def test_the_methods_stand_in_the_class_itself(self):
+        for name, arguments in REEL_METHODS.items():
+            with self.subTest(name=name):
+                method = Reel.__dict__[name]
+                self.assertTrue(inspect.isfunction(method))
+                self.assertEqual(list(inspect.signature(method).parameters), arguments)
 
 
 if __name__ == "__main__":

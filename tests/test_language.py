@@ -25,6 +25,7 @@ BARRED = re.compile(r"""\b(type|typing|typing_extensions|enum|Enum|IntEnum|StrEn
     |dataclass|overload|contextmanager""", re.VERBOSE)
 # L17, the names that nothing has, attributes and keywords neither.
 BARRED_NAMES = set("register mro elements open input law version_info with_traceback add_note".split())
+ITERATED = {"zip", "enumerate", "reversed", "range", "iter"}
 PLAIN = r"\A[A-Za-z][A-Za-z0-9_]*\Z"
 DUNDERS = {"__init__"}
 BANNED_NODES = (ast.Global, ast.AsyncFunctionDef, ast.AsyncFor, ast.AsyncWith, ast.Await, ast.Div, ast.MatMult,
@@ -184,6 +185,22 @@ class LanguageTest(unittest.TestCase):
                     self.assertIn(node.id, BUILTINS)
                 if isinstance(node, ast.Call) and isinstance(node.func, ast.Attribute):
                     self.assertIn(node.func.attr, methods)
+
+        self.each_file(check)
+
+    def test_no_name_is_a_method_and_an_attribute(self):
+        stored = {node.attr for path in files() for node in ast.walk(tree_of(path))
+                  if isinstance(node, ast.Attribute) and isinstance(node.ctx, ast.Store)}
+        self.assertEqual(stored & (own_methods() | METHODS), set())
+
+    def test_what_is_iterated_at_once_is_not_stored(self):
+        # L23: zip, enumerate, reversed and range stand behind the in of a loop, nowhere else here.
+        def check(path):
+            tree = tree_of(path)
+            heads = [node.iter for node in ast.walk(tree) if isinstance(node, (ast.For, ast.comprehension))]
+            for node in ast.walk(tree):
+                if isinstance(node, ast.Call) and getattr(node.func, "id", "") in ITERATED:
+                    self.assertIn(node, heads, ast.unparse(node))
 
         self.each_file(check)
 

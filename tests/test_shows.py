@@ -6,45 +6,7 @@ from fractions import Fraction
 
 from reels.errors import OffReel
 from reels.shows import frame_at, length, normal, taken
-from tests.helper import SHOWS, exact, pair, show_of, stretch
-
-
-def edges(show):
-    """0 and each time at which a stretch ends, as Python's fractions."""
-    times = [Fraction(0)]
-    for begin, end, pace in show:
-        times.append(times[-1] + (exact(end) - exact(begin)) / exact(pace))
-    return times
-
-
-def shown(show, time):
-    """The place and the pace at a time, by going through the show; None off it."""
-    rest = time
-    for begin, end, pace in show:
-        lasts = (exact(end) - exact(begin)) / exact(pace)
-        if rest < lasts:
-            return exact(begin) + rest * exact(pace), exact(pace)
-        rest -= lasts
-    return None
-
-
-def probes(show):
-    """Times within a show: its edges, the middles between, and near each edge."""
-    ends = edges(show)
-    times = set(ends)
-    for one, two in zip(ends, ends[1:]):
-        times.update(((one + two) / 2, one + (two - one) / 1000, two - (two - one) / 1000))
-    return sorted(times)
-
-
-def few_probes(show):
-    """At most about twenty of the probes, the first and the last among them."""
-    times = probes(show)
-    return times[::len(times) // 20 + 1] + times[-1:]
-
-
-def is_normal(show):
-    return not any(one[1] == two[0] and one[2] == two[2] for one, two in zip(show, show[1:]))
+from tests.helper import SHOWS, edges, exact, few_probes, is_normal, pair, probes, show_of, shown, stretch
 
 
 class EachShowTest(unittest.TestCase):
